@@ -3,47 +3,13 @@
 from shieldwords.arms import CHARGE_ROWS, LINE_ROWS, MANNER_ROWS, ORDINARY_ROWS, PARTED_ROWS, TINCTURE_ROWS, VARIED_ROWS
 from shieldwords.arms import CHEQUY, LEAST_PIECES, LOZENGY, MOST_CHARGES, MOST_LAYERS, MOST_PIECES, MOST_SIZE
 from shieldwords.arms import PARTED, PLAIN, VARIED, Arms, Field, GroupLayer, OrdinaryLayer
+from shieldwords.bytereader import ByteReader
 
 ORDINARY_LAYER = 0
 GROUP_LAYER = 1
 
 FIELD_FILL = 0
 COUNTERCHANGED_FILL = 1
-
-
-# The place is that of the first byte that can't stand there, or how many there are if more are wanted.
-class NotWellMade(ValueError):
-    def __init__(self, place):
-        ValueError.__init__(self, place)
-        self.place = place
-
-
-class ByteReader:
-    def __init__(self, data):
-        self.data = data
-        self.place = 0
-
-    def take(self, least, most):
-        if self.place == len(self.data):
-            raise NotWellMade(self.place)
-        byte = self.data[self.place]
-        if byte < least or byte > most:
-            raise NotWellMade(self.place)
-        self.place = self.place + 1
-        return byte
-
-    def take_row(self, rows):
-        return self.take(0, rows - 1)
-
-    def take_other_tincture(self, first):
-        tincture = self.take_row(TINCTURE_ROWS)
-        if tincture == first:
-            raise NotWellMade(self.place - 1)
-        return tincture
-
-    def take_end(self):
-        if self.place < len(self.data):
-            raise NotWellMade(self.place)
 
 
 def read_plain(reader):

@@ -74,9 +74,15 @@ def half_side(manner, how_many, size):
     return half_before_size(manner, how_many) * size // 4
 
 
-def group_has(group, p, r):
-    half = half_side(group.manner, group.how_many, group.size)
-    for m, n in group_middles(group.manner, group.how_many):
-        if charge_has(group.charge, (p - m) * REACH // half, (r - n) * REACH // half):
+def charges_have(charge, half, middles, p, r):
+    for m, n in middles:
+        if charge_has(charge, (p - m) * REACH // half, (r - n) * REACH // half):
             return True
     return False
+
+
+# For each of the points, whether the group has it: where its charges stand is found once for all of them.
+def group_has_points(group, points):
+    half = half_side(group.manner, group.how_many, group.size)
+    middles = group_middles(group.manner, group.how_many)
+    return [charges_have(group.charge, half, middles, p, r) for p, r in points]

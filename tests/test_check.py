@@ -61,16 +61,7 @@ def field_bytes():
 
 
 def as_told(data):
-    grammar = bytes_that_can_stand()
-    wanted = next(grammar)
-    for place, byte in enumerate(data):
-        if wanted is None or byte not in wanted:
-            return [-1, place]
-        try:
-            wanted = grammar.send(byte)
-        except StopIteration:
-            wanted = None
-    return [0] if wanted is None else [-1, len(data)]
+    return told.answer_by(bytes_that_can_stand(), data)
 
 
 class WellMade(unittest.TestCase):

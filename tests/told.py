@@ -4,6 +4,7 @@ The rows below are the document's text as it stands; `formula` turns one into
 Python, so that the program is held against the words and not against itself.
 """
 
+import itertools
 import re
 
 LINES = (
@@ -224,6 +225,48 @@ def arms_bytes(field, layers=()):
     for layer in layers:
         data += layer_bytes(layer)
     return data
+
+
+def answer_by(grammar, data):
+    """What check and drawing answer: the grammar yields which bytes can stand next, and is sent the one that does."""
+    wanted = next(grammar)
+    for place, byte in enumerate(data):
+        if wanted is None or byte not in wanted:
+            return [-1, place]
+        try:
+            wanted = grammar.send(byte)
+        except StopIteration:
+            wanted = None
+    return [0] if wanted is None else [-1, len(data)]
+
+
+HEAD = list(bytes.fromhex("53 48 44 31"))
+
+
+def drawing_of(field, layers=()):
+    """The 36 rows of 30 tinctures that arms are drawn as."""
+    return [[arms_tincture(field, layers, 16 * x + 8, 16 * y + 8) for x in range(30)] for y in range(36)]
+
+
+def row_bytes(row):
+    runs = [(len(list(run)), tincture) for tincture, run in itertools.groupby(row)]
+    return [byte for run in runs for byte in run]
+
+
+def drawing_bytes(rows):
+    return HEAD + [byte for row in rows for byte in row_bytes(row)]
+
+
+def random_row(choose, longest=30):
+    row = []
+    while len(row) < 30:
+        row += [choose.randrange(9)] * choose.randint(1, longest)
+    return row[:30]
+
+
+def random_drawing(choose):
+    """Any 36 rows, some of them cut up as finely as can be."""
+    return [random_row(choose, choose.choice((1, 2, 9, 30))) for row in range(36)]
 
 
 def walk(rows, columns):
