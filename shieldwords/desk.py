@@ -2,6 +2,7 @@
 
 from shieldwords.armsbytes import read_arms
 from shieldwords.bytereader import WrongByte
+from shieldwords.distance import distance, distance_at_open_points, too_like
 from shieldwords.drawingbytes import drawing_bytes, read_drawing
 from shieldwords.drawings import arms_drawing
 from shieldwords.points import arms_tincture
@@ -10,6 +11,28 @@ from shieldwords.shield import on_shield
 NOT_WELL_MADE = -1
 NO_SUCH_POINT = -2
 NO_DRAWING = -1
+OTHER_NO_DRAWING = -3
+NO_SUCH_CHOICE = -2
+
+
+# Of two drawings' bytes the first that are none's: the number that is answered for them, and the place.
+class NoPair(ValueError):
+    def __init__(self, number, place):
+        ValueError.__init__(self, number, place)
+        self.number = number
+        self.place = place
+
+
+def read_pair(d, e):
+    try:
+        one = read_drawing(d)
+    except WrongByte as fault:
+        raise NoPair(NO_DRAWING, fault.place) from None
+    try:
+        other = read_drawing(e)
+    except WrongByte as fault:
+        raise NoPair(OTHER_NO_DRAWING, fault.place) from None
+    return (one, other)
 
 
 def with_length(data):
@@ -47,4 +70,26 @@ def drawing(d):
         read_drawing(d)
     except WrongByte as fault:
         return [NO_DRAWING, fault.place]
+    return [0]
+
+
+def apart(o, d, e):
+    try:
+        pair = read_pair(d, e)
+    except NoPair as fault:
+        return [fault.number, fault.place]
+    if o == 0:
+        return [distance(pair[0], pair[1])]
+    if o == 1:
+        return [distance_at_open_points(pair[0], pair[1])]
+    return [NO_SUCH_CHOICE]
+
+
+def like(d, e):
+    try:
+        pair = read_pair(d, e)
+    except NoPair as fault:
+        return [fault.number, fault.place]
+    if too_like(pair[0], pair[1]):
+        return [1]
     return [0]
