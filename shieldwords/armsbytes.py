@@ -1,4 +1,4 @@
-"""Arms as bytes: well made ones are read, of others the first fault is told."""
+"""Arms as bytes: written, and read from bytes that are well made."""
 
 from shieldwords.arms import CHARGE_ROWS, LINE_ROWS, MANNER_ROWS, ORDINARY_ROWS, PARTED_ROWS, TINCTURE_ROWS, VARIED_ROWS
 from shieldwords.arms import CHEQUY, LEAST_PIECES, LOZENGY, MOST_CHARGES, MOST_LAYERS, MOST_PIECES, MOST_SIZE
@@ -86,3 +86,31 @@ def read_arms(data):
         layers.append(read_layer(reader, field))
     reader.take_end()
     return Arms(field, layers)
+
+
+def field_bytes(field):
+    if field.kind == PLAIN:
+        return [PLAIN, field.first]
+    if field.kind == PARTED:
+        return [PARTED, field.way, field.line, field.first, field.second]
+    return [VARIED, field.way, field.pieces, field.line, field.first, field.second]
+
+
+def fill_bytes(fill):
+    if fill is None:
+        return [COUNTERCHANGED_FILL]
+    return [FIELD_FILL] + field_bytes(fill)
+
+
+def layer_bytes(layer):
+    if isinstance(layer, OrdinaryLayer):
+        return [ORDINARY_LAYER, layer.ordinary, layer.line] + fill_bytes(layer.fill)
+    group = [GROUP_LAYER, layer.charge, layer.how_many, layer.manner, layer.size]
+    return group + fill_bytes(layer.fill)
+
+
+def arms_bytes(arms):
+    data = field_bytes(arms.field) + [len(arms.layers)]
+    for layer in arms.layers:
+        data.extend(layer_bytes(layer))
+    return data

@@ -1,6 +1,9 @@
 """The calls: each takes what is handed in, changes none of it, and answers a list of whole numbers."""
 
-from shieldwords.armsbytes import read_arms
+from shieldwords.armsbytes import arms_bytes, read_arms
+from shieldwords.blazonprinter import blazon_bytes
+from shieldwords.blazonreader import read_blazon
+from shieldwords.blazontokens import BlazonFault
 from shieldwords.bytereader import WrongByte
 from shieldwords.distance import distance, distance_at_open_points, too_like
 from shieldwords.drawingbytes import drawing_bytes, read_drawing
@@ -93,3 +96,20 @@ def like(d, e):
     if too_like(pair[0], pair[1]):
         return [1]
     return [0]
+
+
+def read(t):
+    try:
+        arms = read_blazon(t)
+    except BlazonFault as fault:
+        return [-fault.kind, fault.place]
+    return with_length(arms_bytes(arms))
+
+
+# The words' call print: that name is Python's own.
+def print_of(a):
+    try:
+        arms = read_arms(a)
+    except WrongByte as fault:
+        return [NOT_WELL_MADE, fault.place]
+    return with_length(blazon_bytes(arms))
