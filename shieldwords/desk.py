@@ -8,6 +8,7 @@ from shieldwords.bytereader import WrongByte
 from shieldwords.distance import distance, distance_at_open_points, too_like
 from shieldwords.drawingbytes import drawing_bytes, read_drawing
 from shieldwords.drawings import arms_drawing
+from shieldwords.judgement import first_fault
 from shieldwords.points import arms_tincture
 from shieldwords.shield import on_shield
 
@@ -113,3 +114,14 @@ def print_of(a):
     except WrongByte as fault:
         return [NOT_WELL_MADE, fault.place]
     return with_length(blazon_bytes(arms))
+
+
+def judge(a):
+    try:
+        arms = read_arms(a)
+    except WrongByte as fault:
+        return [NOT_WELL_MADE, fault.place]
+    found = first_fault(arms)
+    if found == []:
+        return [0]
+    return found
